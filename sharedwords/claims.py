@@ -1,5 +1,9 @@
 """Claims over m letters, as numbers: in which worlds they are so, in which letters they are told."""
 
+FOLLOWS = 1
+CANNOT_BE_SO = 0
+NEITHER = 2
+
 
 def all_letters(m):
     """The set of all letters."""
@@ -14,6 +18,29 @@ def always(m):
 def worlds(claim, m):
     """The worlds in which the claim is so, rising."""
     return [world for world in range(1 << m) if (claim >> world) & 1 == 1]
+
+
+def letter_is_so(letter, m):
+    """The claim that the letter is so."""
+    claim = 0
+    for world in range(1 << m):
+        if (world >> letter) & 1 == 1:
+            claim += 1 << world
+    return claim
+
+
+def follows_of(claim, known):
+    """Whether the claim follows of what is known."""
+    return (known & claim) == known
+
+
+def stands_to(claim, known):
+    """Whether the claim follows of what is known, can't be so beside it, or neither."""
+    if follows_of(claim, known):
+        return FOLLOWS
+    if (known & claim) == 0:
+        return CANNOT_BE_SO
+    return NEITHER
 
 
 def says(claim, letters, m):
@@ -41,7 +68,7 @@ def falls_apart(claim, letters, m):
     return (says(claim, letters, m) & without(claim, letters, m)) == claim
 
 
-def part_of(claim, letter, m):
+def part_with(claim, letter, m):
     """The letter's part of the claim."""
     part = all_letters(m)
     for letters in range(1 << m):
@@ -50,11 +77,11 @@ def part_of(claim, letter, m):
     return part
 
 
-def parts(claim, m):
+def all_parts(claim, m):
     """The claim's parts, by their least letters, rising."""
     found = []
     for letter in range(m):
-        part = part_of(claim, letter, m)
+        part = part_with(claim, letter, m)
         if part not in found:
             found.append(part)
     return found
@@ -71,7 +98,7 @@ def revised(known, claim, m):
     if (known & claim) != 0:
         return known & claim
     held = claim
-    for part in parts(known, m):
+    for part in all_parts(known, m):
         if not touches(claim, part, m):
             held = held & says(known, part, m)
     return held

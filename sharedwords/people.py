@@ -1,6 +1,6 @@
 """Two people: their own letters, what they know, and the changes that can be taken back."""
 
-from sharedwords.claims import always
+from sharedwords.claims import always, says
 
 MOST_BACK = 20
 
@@ -31,6 +31,22 @@ class People:
     def common_letters(self):
         """The letters that they share."""
         return self.own_letters[0] & self.own_letters[1]
+
+    def known_together(self):
+        """What both know together; 0 if it is never so."""
+        return self.known[0] & self.known[1]
+
+    def most_told(self, w, letters):
+        """The most that person w can tell in these letters."""
+        return says(self.known[w], letters, self.m)
+
+    def known_if_told(self, w, letters):
+        """What person w knows, and the most that the other one can tell in these letters, both; 0 if never so."""
+        return self.known[w] & self.most_told(1 - w, letters)
+
+    def quarrel_in(self, letters):
+        """Whether they quarrel in these letters."""
+        return (self.most_told(0, letters) & self.most_told(1, letters)) == 0
 
     def hold(self, w, claim):
         """A change: person w knows the claim now."""

@@ -7,8 +7,14 @@ NAMES = (
     "could asks safe quarrel quarrels both common agreed parts matter settles unsure state"
 ).split()
 WIDTHS = (3, 2, 2, 2, 1, 2, 2, 0, 0, 1, 2, 2, 0, 1, 2, 2, 1, 2, 2, 2, 0, 0, 0, 0, 1, 1, 1, 1, 1, 0)
-BUILT = NAMES[:15]
 BIGGEST = 4294967295
+
+# By what they are given: a person and a claim; a person and letters; a person alone; nothing.
+CLAIM_CALLS = ("learn", "revise", "follows", "is_open", "could", "asks", "safe")
+LETTERS_CALLS = ("forget", "tellof", "tells", "news")
+LONE_CALLS = ("tell", "knows", "own", "would", "parts", "matter", "settles", "unsure")
+BARE_CALLS = ("back", "again", "shared", "quarrel", "quarrels", "both", "common", "state")
+CHANGES = ("learn", "forget", "revise", "tell", "tellof", "teach")
 
 
 def flat(line):
@@ -49,13 +55,13 @@ def claim(m, so):
     return sum(1 << world for world in range(1 << m) if so(*[bool(world >> i & 1) for i in range(m)]))
 
 
-# All that these calls show, without changing it; then what can be done again; then what can be taken back.
 SHOW = [("knows", 0), ("knows", 1), ("own", 0), ("own", 1), ("shared",)]
 
 
 def changes_nothing(before, refused):
     """Whether the line before shows, does again and takes back the same with the refused calls behind it."""
-    for look in (SHOW + [("again",)] * 4 + SHOW, SHOW + [("back",)] * 6 + SHOW):
+    show = SHOW + [("state",)]
+    for look in (show + [("again",)] * 4 + show, show + [("back",)] * 6 + show):
         plain = ask(*before, *look)[len(before):]
         behind = ask(*before, *refused, *look)[len(before) + len(refused):]
         if plain != behind:

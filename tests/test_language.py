@@ -117,6 +117,59 @@ class Language(unittest.TestCase):
                 if isinstance(node, ast.Name) and isinstance(node.ctx, ast.Load):
                     self.assertIn(node.id, OWN_NAMES + bound, (path.name, node.lineno))
 
+    def test_no_two_files_draw_from_one_another(self):
+        drawn = {}
+        for path, tree in trees():
+            drawn["sharedwords." + path.stem] = [node.module for node in ast.walk(tree) if isinstance(node, ast.ImportFrom)]
+        while drawn:
+            free = [name for name in drawn if not any(other in drawn for other in drawn[name])]
+            self.assertTrue(free, sorted(drawn))
+            drawn = {name: drawn[name] for name in drawn if name not in free}
+
+    def test_a_name_is_imported_from_the_file_that_defines_it(self):
+        defined = {}
+        for path, tree in trees():
+            for node in tree.body:
+                if isinstance(node, (ast.FunctionDef, ast.ClassDef)):
+                    defined[("sharedwords." + path.stem, node.name)] = True
+                elif isinstance(node, ast.Assign):
+                    defined[("sharedwords." + path.stem, node.targets[0].id)] = True
+        for path, tree in trees():
+            for node in ast.walk(tree):
+                if isinstance(node, ast.ImportFrom):
+                    for alias in node.names:
+                        self.assertIn((node.module, alias.name), defined, path)
+                        self.assertIsNone(alias.asname, path)
+
+    def test_no_local_is_called_like_an_import_or_a_class(self):
+        for path, tree in trees():
+            taken = [alias.name for node in tree.body if isinstance(node, ast.ImportFrom) for alias in node.names]
+            taken += [node.name for node in tree.body if isinstance(node, ast.ClassDef)]
+            for node in ast.walk(tree):
+                if isinstance(node, ast.FunctionDef):
+                    for inside in ast.walk(node):
+                        if isinstance(inside, ast.arg):
+                            self.assertNotIn(inside.arg, taken, (path.name, inside.lineno))
+                        if isinstance(inside, ast.Name) and isinstance(inside.ctx, ast.Store):
+                            self.assertNotIn(inside.id, taken, (path.name, inside.lineno))
+
+    def test_narrow_forms(self):
+        for path, tree in trees():
+            for node in ast.walk(tree):
+                where = (path.name, getattr(node, "lineno", 0))
+                if isinstance(node, ast.ListComp):
+                    self.assertEqual(len(node.generators), 1, where)
+                    self.assertLessEqual(len(node.generators[0].ifs), 1, where)
+                if isinstance(node, ast.Compare):
+                    for op, other in zip(node.ops, node.comparators):
+                        if isinstance(op, (ast.Is, ast.IsNot)):
+                            self.assertIsInstance(other, ast.Constant, where)
+                if isinstance(node, ast.Call):
+                    # None is needed so far.
+                    self.assertEqual(node.keywords, [], where)
+                if isinstance(node, ast.Constant) and isinstance(node.value, str):
+                    self.assertNotIn("%", node.value, where)
+
     def test_names_of_the_top_are_bound_once(self):
         for path, tree in trees():
             top = []

@@ -2,7 +2,8 @@
 
 import unittest
 
-from tests.lines import BIGGEST, NAMES, SHOW, WIDTHS, ask, changes_nothing, last
+from tests.lines import BIGGEST, CLAIM_CALLS, LETTERS_CALLS, LONE_CALLS, NAMES, SHOW, WIDTHS
+from tests.lines import ask, changes_nothing, last
 
 ALWAYS_2 = 15
 LETTER_0 = 10
@@ -83,9 +84,16 @@ class BackAndAgain(unittest.TestCase):
                 self.assertEqual(ask(("begin", 2, 3, 1), change, ("back",), ("back",))[2:], [[0], [-6]])
 
     def test_what_only_asks_is_no_change(self):
-        questions = [("knows", 0), ("follows", 0, 15), ("is_open", 0, 10), ("shared",), ("own", 1), ("tells", 0, 1)]
-        before = [("begin", 2, 3, 1), ("learn", 0, LETTER_0), ("learn", 0, LETTER_1), ("back",)]
-        self.assertTrue(changes_nothing(before, questions))
+        before = [("begin", 2, 3, 1), ("learn", 0, LETTER_0), ("learn", 1, 15 ^ LETTER_0), ("learn", 0, LETTER_1), ("back",)]
+        for number, name in enumerate(NAMES[9:], start=9):
+            question = (name, 0, LETTER_1)[:1 + WIDTHS[number]]
+            if name in ("tells", "news"):
+                question = (name, 0, 1)
+            if name == "agreed":
+                question = (name, 1)
+            with self.subTest(question=question):
+                self.assertGreaterEqual(last(*before, question)[0], 0)
+                self.assertTrue(changes_nothing(before, [question]))
 
     def test_a_refused_change_can_not_be_taken_back(self):
         got = ask(("begin", 1, 1, 1), ("learn", 0, 2), ("learn", 0, 1), ("teach", 0, 0), ("back",), ("back",))
@@ -120,11 +128,6 @@ class BackAndAgain(unittest.TestCase):
         self.assertEqual(got[15:], falling + falling + [[-6], [13]])
 
 
-CLAIM_CALLS = ("learn", "revise", "follows", "is_open")
-LETTERS_CALLS = ("forget", "tellof", "tells")
-LONE_CALLS = ("tell", "knows", "own")
-
-
 class WhereAPersonIsGiven(unittest.TestCase):
     # Person 0 has letters 0 and 1, person 1 letters 1 and 2; each knows something, and there is one to do again.
     before = [("begin", 3, 3, 6), ("learn", 0, 0xEE), ("learn", 1, 0xFC), ("learn", 1, 0xF0), ("back",)]
@@ -157,7 +160,12 @@ class WhereAPersonIsGiven(unittest.TestCase):
             for name in CLAIM_CALLS:
                 with self.subTest(m=m, name=name):
                     begin = ("begin", m, 1, 1)
-                    self.assertGreaterEqual(last(begin, (name, 0, always))[0], 0)
+                    got = last(begin, (name, 0, always))
+                    if name == "safe":
+                        # It is right to give it, but it follows of anything.
+                        self.assertEqual(got, [-33])
+                    else:
+                        self.assertGreaterEqual(got[0], 0)
                     self.assertEqual(last(begin, (name, 0, always + 1)), [-22])
 
     def test_no_set_of_letters(self):
@@ -179,7 +187,7 @@ class WhereAPersonIsGiven(unittest.TestCase):
                 self.refused(-62, (name, 1, q))
 
     def test_letters_that_are_not_shared(self):
-        for name in ("tellof", "tells"):
+        for name in ("tellof", "tells", "news"):
             for s in (1, 3, 4, 5, 6, 7):
                 self.refused(-62, (name, 0, s))
                 self.refused(-62, (name, 1, s))
@@ -197,6 +205,36 @@ class WhereAPersonIsGiven(unittest.TestCase):
         # Told in any letters, as it is so in no world.
         self.assertEqual(last(*before, ("learn", 0, 0)), [-33])
         self.assertEqual(last(*before, ("revise", 0, 0)), [-33])
+
+
+class WhereLettersAloneAreGiven(unittest.TestCase):
+    before = WhereAPersonIsGiven.before
+
+    def refused(self, number, s):
+        with self.subTest(s=s):
+            self.assertEqual(last(*self.before, ("agreed", s)), [number])
+            self.assertTrue(changes_nothing(self.before, [("agreed", s)]))
+
+    def test_no_set_of_letters(self):
+        for s in (8, 9, 10, 15, 255, 65536, BIGGEST):
+            self.refused(-22, s)
+
+    def test_letters_that_are_not_shared(self):
+        for s in (1, 3, 4, 5, 6, 7):
+            self.refused(-62, s)
+
+    def test_letters_that_are_shared(self):
+        for s in (0, 2):
+            self.assertIn(last(*self.before, ("agreed", s)), ([0], [1]))
+
+    def test_the_greatest_set_of_each_number_of_letters(self):
+        for m in (1, 2, 3, 4):
+            every = (1 << m) - 1
+            for name, given in (("agreed", ()), ("news", (0,)), ("tells", (1,)), ("tellof", (0,))):
+                with self.subTest(m=m, name=name):
+                    start = ("begin", m, every, every)
+                    self.assertGreaterEqual(last(start, (name, *given, every))[0], 0)
+                    self.assertEqual(last(start, (name, *given, every + 1)), [-22])
 
 
 if __name__ == "__main__":
